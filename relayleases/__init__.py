@@ -1,0 +1,1 @@
+"""Clients, relays and servers: addresses asked for over a tree of relays."""
