@@ -146,7 +146,7 @@ class ActTest(LineTest):
 
     def test_a_lease_from_its_first_half_to_its_end(self):
         self.it.phase, self.it.lease, self.it.due = 3, LEASE, 1500
-        # It acts at half, then 187, 93, 60 later, at late, 62 later, at the end, and from then on it seeks.
+        # It acts at half, then 187, 94 and 60 later, at late, 62 and 60 later, and at the end, when it seeks.
         for due, phase in ((1500, 4), (1687, 4), (1781, 4), (1841, 4), (1875, 5), (1937, 5), (1997, 5), (2000, 1)):
             self.assertEqual(self.it.due, due)
             self.acts_at(due)

@@ -75,7 +75,7 @@ class TickTest(LineTest):
         self.done(PLUG, 9, 0, 7)
         self.done(ON, 9)
         self.done(TICK, 24)
-        # Host 1 is due at 28 as host 9 is, and then acts twice before host 9 does again.
+        # Host 1 is due at 28 as host 9 is and acts first; its next due is 37, that of host 9 is 60.
         self.done(ON, 1)
         self.done(TICK, 20)
         self.assertEqual([(message[1], message[2]) for message in self.bag()],
