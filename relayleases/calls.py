@@ -1,7 +1,9 @@
 """What each call on a world does: its numbers are within their ranges here; the row answered is given back."""
 
 from relayleases.clients import act_until, come_back, seek
-from relayleases.parts import OFF, Client, Relay
+from relayleases.handling import deliver_at
+from relayleases.parts import OFF, UP, Client, Message, Relay, put
+from relayleases.rows import client_row, message_row, pairs_row, path_of, written_of
 
 MOST_RELAYS = 64
 MOST_CLIENTS = 64
@@ -132,6 +134,98 @@ def tick(world, numbers):
     return [0, until, acts]
 
 
+def is_full(world):
+    """Tell whether the bag holds all that it may."""
+    return len(world.bag) == world.cap
+
+
+def deliver(world, numbers):
+    """Deliver the message at place k, and tell each message that was put for it."""
+    # Handling only puts in at the end, so what was put stands behind all that was left.
+    left = len(world.bag) - 1
+    deliver_at(world, numbers[0])
+    row = [0, len(world.bag) - left]
+    for message in world.bag[left:]:
+        told = message_row(message)
+        row.append(len(told))
+        row.extend(told)
+    return row
+
+
+def lose(world, numbers):
+    """Take the message at place k out of the bag."""
+    world.bag.pop(numbers[0])
+    return [0]
+
+
+def double(world, numbers):
+    """Put a copy of the message at place k."""
+    if is_full(world):
+        return [-3]
+    put(world, world.bag[numbers[0]])
+    return [0]
+
+
+def flow(world, numbers):
+    """Deliver the oldest message again and again, those too that are put meanwhile."""
+    delivered = 0
+    while delivered < numbers[0] and len(world.bag) > 0:
+        deliver_at(world, 0)
+        delivered += 1
+    return [0, delivered]
+
+
+def forge(world, numbers):
+    """Put a stranger's message up at an outer circuit."""
+    where = (numbers[0], numbers[1])
+    client = world.clients.get(numbers[2])
+    if where in world.hung:
+        return [-2]
+    # A stranger knows no number before it is used.
+    if client is None or numbers[3] > client.counter:
+        return [-3]
+    if is_full(world):
+        return [-4]
+    server = None if numbers[5] == -1 else numbers[5]
+    marks = [(numbers[at], numbers[at + 1]) for at in range(8, len(numbers), 2)]
+    put(world, Message((UP,) + where, numbers[2], numbers[3], numbers[4], server, numbers[6], 0, numbers[7],
+                       tuple(marks)))
+    return [0]
+
+
+def tell_client(world, numbers):
+    """Tell all of a client."""
+    client = world.clients.get(numbers[0])
+    if client is None:
+        return [-2]
+    return [0] + client_row(client)
+
+
+def tell_written(world, numbers):
+    """Tell what a server wrote for a host."""
+    return [0] + pairs_row(written_of(world, numbers[0], numbers[1]))
+
+
+def peek(world, numbers):
+    """Tell the message at place k."""
+    return [0] + message_row(world.bag[numbers[0]])
+
+
+def tell_path(world, numbers):
+    """Tell the marks of what comes in at a circuit of a relay."""
+    return [0] + pairs_row(path_of(world, numbers[0], numbers[1]))
+
+
+def tell_next(world, numbers):
+    """Tell the earliest due."""
+    return [0, min([client.due for client in world.clients.values() if client.due is not None], default=-1)]
+
+
+def tell_state(world, numbers):
+    """Tell the time and how much there is."""
+    return [0, world.now, len(world.bag), len(world.relays), len(world.clients)]
+
+
 # By a call's place; begin is none of these, for it needs no world.
 CALLS = {
     1: add_relay,
@@ -144,6 +238,17 @@ CALLS = {
     8: withdraw,
     9: rest,
     10: tick,
+    11: deliver,
+    12: lose,
+    13: double,
+    14: flow,
+    15: forge,
+    16: tell_client,
+    17: tell_written,
+    18: peek,
+    19: tell_path,
+    20: tell_next,
+    21: tell_state,
 }
 
 

@@ -1,6 +1,8 @@
-"""What clients do: send, seek, ask, come back, settle and act."""
+"""What clients do: send, seek, ask, come back, settle, act and hear."""
 
-from relayleases.parts import ASKING, ASKS, ASKS_ALL, BOUND, COMES_BACK, RENEWS, SEEKING, SEEKS, UP, Message, put
+from relayleases.parts import ASKING, NO, OFFER, SEEKING, UP, YES
+from relayleases.parts import ASKS, ASKS_ALL, BOUND, COMES_BACK, OFF, RENEWS, SEEKS
+from relayleases.parts import Message, put
 
 # By tries, which are never more than 10: the lesser of 64 and 4 * 2^tries, less 1.
 WAITS = (3, 7, 15, 31, 63, 63, 63, 63, 63, 63, 63)
@@ -125,3 +127,48 @@ def act_until(world, until):
         acts += 1
         earliest = min(dues)
     return acts
+
+
+def hear(world, client, message):
+    """Take in a message that came out where the client is plugged; only an answer to its last one counts."""
+    if client.phase == OFF or message.number != client.awaited:
+        return
+    if message.kind == OFFER:
+        hear_offer(client, message)
+    elif message.kind == YES:
+        hear_yes(world, client, message)
+    elif message.kind == NO and client.phase in (ASKS, RENEWS, ASKS_ALL, COMES_BACK):
+        seek(world, client, 0)
+
+
+def hear_offer(client, message):
+    """Keep the offer if it is the best so far."""
+    if client.phase == SEEKS and is_better(message, client.offer):
+        client.offer = (message.server, message.address, message.length)
+
+
+def is_better(message, best):
+    """Tell whether a message's offer is better than the best one so far: longer, or of a smaller server."""
+    if best is None:
+        return True
+    if message.length == best[2]:
+        return message.server < best[0]
+    return message.length > best[2]
+
+
+def hear_yes(world, client, message):
+    """Take a fitting yes as the lease, counted from when it was asked for: the server wrote its end no earlier."""
+    end = client.sent + message.length
+    if is_fitting(client, message) and end > world.now:
+        half = client.sent + message.length // 2
+        late = client.sent + message.length * 7 // 8
+        client.offer = None
+        client.lease = (message.server, message.address, half, late, end)
+        settle(world, client)
+
+
+def is_fitting(client, message):
+    """Tell whether a yes is one to what the client asks for in its phase."""
+    if client.phase == ASKS:
+        return message.server == client.offer[0] and message.address == client.offer[1]
+    return client.phase in (RENEWS, ASKS_ALL, COMES_BACK) and message.address == client.lease[1]

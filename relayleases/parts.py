@@ -7,10 +7,16 @@ FIRST_LIMIT = 16
 
 # Where a message in the bag is.
 UP = 0
+AT_SERVER = 1
+DOWN = 2
+OUT = 3
 
 # The kinds of messages.
 SEEKING = 1
+OFFER = 2
 ASKING = 3
+YES = 4
+NO = 5
 
 # The phases of clients.
 OFF = 0
@@ -32,9 +38,10 @@ class Relay:
 
 
 class Message:
-    """A message at a place: a tuple of the place's kind, the relay or server, and the circuit.
+    """A message at a place: a tuple of the place's kind, the relay or server, and the circuit (0 where there is none).
 
-    No message is ever changed once it is made, so a copy may be the same object.
+    The marks are a tuple of pairs, the latest first. No message is ever changed once it is made, so a copy may be the
+    same object.
     """
 
     def __init__(self, place, host, number, kind, server, address, length, hops, marks):

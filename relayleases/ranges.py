@@ -11,9 +11,17 @@ RANGES = {
     "len": (1, 1000000000),
     "x": (0, 1),
     "t": (0, 20000),
+    "m": (0, 1000),
+    "number": (1, 1000000000000000000),
+    "kind": (1, 5),
+    "hops": (0, 16),
+    "of a pair": (0, 4095),
 }
 
-# By a call's place: what each of its numbers is.
+# Sixteen pairs.
+MOST_FURTHER = 32
+
+# By a call's place: what each of its numbers is; behind those of forge stand further ones, in pairs.
 NUMBERS = {
     0: ("servers", "cap", "time"),
     1: ("relay", "circuit", "limit"),
@@ -26,16 +34,38 @@ NUMBERS = {
     8: ("server", "host", "relay"),
     9: ("server", "x"),
     10: ("t",),
+    11: ("k",),
+    12: ("k",),
+    13: ("k",),
+    14: ("m",),
+    15: ("relay", "circuit", "host", "number", "kind", "server or none", "address", "hops"),
+    16: ("host",),
+    17: ("server", "host"),
+    18: ("k",),
+    19: ("relay", "circuit"),
+    20: (),
+    21: (),
 }
 
 
 def is_granted(world, name, number):
-    """Tell whether a number is within the range of that name; only servers and relays depend on the world."""
+    """Tell whether a number is within the range of that name; those of the first four depend on the world."""
     if name == "server":
         return 0 <= number < world.servers
+    if name == "server or none":
+        return -1 <= number < world.servers
     if name == "relay":
         return 0 <= number < len(world.relays)
+    if name == "k":
+        return 0 <= number < len(world.bag)
     return RANGES[name][0] <= number <= RANGES[name][1]
+
+
+def are_pairs(world, further):
+    """Tell whether forge's further numbers are pairs, and not too many."""
+    if len(further) % 2 != 0 or len(further) > MOST_FURTHER:
+        return False
+    return all([is_granted(world, "of a pair", number) for number in further])
 
 
 def are_granted(world, place, numbers):
@@ -43,4 +73,4 @@ def are_granted(world, place, numbers):
     for name, number in zip(NUMBERS[place], numbers):
         if not is_granted(world, name, number):
             return False
-    return True
+    return are_pairs(world, numbers[len(NUMBERS[place]):])

@@ -2,9 +2,15 @@
 
 import unittest
 
+from relayleases.parts import Message
 from relayleases.world import answers, play
 
-(BEGIN, RELAY, PLUG, UNPLUG, ON, OFF, FORGET, ASSIGN, WITHDRAW, REST, TICK) = range(11)
+(BEGIN, RELAY, PLUG, UNPLUG, ON, OFF, FORGET, ASSIGN, WITHDRAW, REST, TICK, DELIVER, LOSE, DOUBLE, FLOW, FORGE, CLIENT,
+ WRITTEN, PEEK, PATH, NEXT, STATE) = range(22)
+
+# The kinds of a message's place, and the kinds of messages.
+(UP, AT_SERVER, DOWN, OUT) = range(4)
+(SEEKING, OFFER, ASKING, YES, NO) = range(1, 6)
 
 LAST_HOST = 281474976710655
 LAST_ADDRESS = 4294967295
@@ -27,6 +33,12 @@ def rows_of(given):
         rows.append(given[at + 1:at + 1 + given[at]])
         at += 1 + given[at]
     return rows
+
+
+def told(place, host, number, kind, server=-1, address=0, length=0, hops=0, marks=()):
+    """A message's numbers, as the calls answer them."""
+    flat = [part for mark in marks for part in mark]
+    return [*place, host, number, kind, server, address, length, hops, len(marks), *flat]
 
 
 def shown(thing):
@@ -61,6 +73,11 @@ class LineTest(unittest.TestCase):
         self.assertEqual(rows_of(answers(handed)), self.rows)
         self.assertEqual(handed, self.calls)
 
+    def anew(self):
+        """End the line, with what is looked at then, and begin another."""
+        self.tearDown()
+        self.setUp()
+
     def call(self, place, *numbers):
         self.world, row = play(self.world, place, list(numbers))
         self.calls.extend(laid(place, *numbers))
@@ -93,3 +110,24 @@ class LineTest(unittest.TestCase):
         """The messages in the bag, each with all its values in one tuple."""
         return [(m.place, m.host, m.number, m.kind, m.server, m.address, m.length, m.hops, m.marks)
                 for m in self.world.bag]
+
+    def lay(self, place, host, number, kind, server=None, address=0, length=0, hops=0, marks=()):
+        """Lay a message into the bag by hand, one that calls alone can't bring there."""
+        self.by_hand = True
+        self.world.bag.append(Message(place, host, number, kind, server, address, length, hops, marks))
+
+    def delivered(self, k=0):
+        """Deliver the message at place k; the numbers of each message that was put, taken from the row answered."""
+        row = self.done(DELIVER, k)
+        put = []
+        at = 1
+        while at < len(row):
+            put.append(row[at + 1:at + 1 + row[at]])
+            at += 1 + row[at]
+        self.assertEqual(len(put), row[0])
+        self.assertEqual(sum(len(numbers) + 1 for numbers in put) + 1, len(row))
+        return put
+
+    def peeked(self):
+        """The numbers of all messages in the bag."""
+        return [self.done(PEEK, k) for k in range(len(self.world.bag))]

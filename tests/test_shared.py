@@ -1,14 +1,18 @@
 """What all calls share: -9 without a world, then -1 out of range, then a call's own refusals."""
 
 from relayleases.parts import World
-from tests.helper import (ASSIGN, BEGIN, FARTHEST, FORGET, LAST_ADDRESS, LAST_CIRCUIT, LAST_HOST, LAST_TIME, LONGEST,
-                          OFF, ON, PLUG, RELAY, REST, TICK, UNPLUG, WITHDRAW, LineTest, shown)
+from tests.helper import (ASSIGN, BEGIN, CLIENT, DELIVER, DOUBLE, FARTHEST, FLOW, FORGE, FORGET, LAST_ADDRESS,
+                          LAST_CIRCUIT, LAST_HOST, LAST_TIME, LONGEST, LOSE, NEXT, OFF, ON, PATH, PEEK, PLUG, RELAY,
+                          REST, STATE, TICK, UNPLUG, WITHDRAW, WRITTEN, LineTest, shown)
 
 HOSTS = (0, LAST_HOST)
 CIRCUITS = (0, LAST_CIRCUIT)
-# In the world of RangeTest there are three relays and four servers.
+ADDRESSES = (0, LAST_ADDRESS)
+# In the world of RangeTest there are three relays and four servers, and three messages in the bag.
 RELAYS = (0, 2)
 SERVERS = (0, 3)
+PLACES = (0, 2)
+PAIRED = (0, 4095)
 
 # For each call: numbers that are granted, and for each of them the least and the greatest that is.
 CALLS = {
@@ -19,10 +23,22 @@ CALLS = {
     ON: ((7,), (HOSTS,)),
     OFF: ((7,), (HOSTS,)),
     FORGET: ((7,), (HOSTS,)),
-    ASSIGN: ((1, 7, 1, 50, 60), (SERVERS, HOSTS, RELAYS, (0, LAST_ADDRESS), (1, LONGEST))),
+    ASSIGN: ((1, 7, 1, 50, 60), (SERVERS, HOSTS, RELAYS, ADDRESSES, (1, LONGEST))),
     WITHDRAW: ((1, 7, 1), (SERVERS, HOSTS, RELAYS)),
     REST: ((1, 1), (SERVERS, (0, 1))),
     TICK: ((5,), ((0, 20000),)),
+    DELIVER: ((1,), (PLACES,)),
+    LOSE: ((1,), (PLACES,)),
+    DOUBLE: ((1,), (PLACES,)),
+    FLOW: ((5,), ((0, 1000),)),
+    FORGE: ((1, 9, 7, 1, 3, 2, 50, 4, 1, 2, 3, 4),
+            (RELAYS, CIRCUITS, HOSTS, (1, FARTHEST), (1, 5), (-1, 3), ADDRESSES, (0, 16)) + (PAIRED,) * 4),
+    CLIENT: ((7,), (HOSTS,)),
+    WRITTEN: ((1, 7), (SERVERS, HOSTS)),
+    PEEK: ((1,), (PLACES,)),
+    PATH: ((1, 9), (RELAYS, CIRCUITS)),
+    NEXT: ((), ()),
+    STATE: ((), ()),
 }
 
 
@@ -33,12 +49,12 @@ def with_one(numbers, at, number):
 
 class NoWorldTest(LineTest):
     def test_every_call_but_begin_needs_a_world(self):
-        for place in range(1, 11):
+        for place in range(1, 22):
             self.assertEqual(self.call(place, *CALLS[place][0]), [-9])
         self.assertIsNone(self.world)
 
     def test_no_world_is_looked_at_ahead_of_ranges(self):
-        for place in range(1, 11):
+        for place in range(1, 22):
             numbers = CALLS[place][0]
             for at in range(len(numbers)):
                 for wrong in (-1, FARTHEST, -FARTHEST):
@@ -96,12 +112,15 @@ class RangeTest(LineTest):
         self.done(BEGIN, 4, 100, 0)
         self.done(RELAY, 0, 100, 16)
         self.done(RELAY, 0, 101, 16)
-        if place in (UNPLUG, ON, OFF, FORGET):
+        if place in (UNPLUG, ON, OFF, FORGET, FORGE, CLIENT, DELIVER, LOSE, DOUBLE, PEEK):
             for host in (0, 7, LAST_HOST):
                 self.done(PLUG, host, 0, 5)
-        if place == OFF:
+        if place in (OFF, DELIVER, LOSE, DOUBLE, PEEK):
             for host in (0, 7, LAST_HOST):
                 self.done(ON, host)
+        if place == FORGE:
+            for host in (0, 7, LAST_HOST):
+                self.hand(host).counter = FARTHEST
         if place == WITHDRAW:
             numbers = CALLS[WITHDRAW][0]
             self.done(ASSIGN, *numbers, 1, 1)
@@ -112,6 +131,7 @@ class RangeTest(LineTest):
     def test_the_edges_are_granted(self):
         for place in CALLS:
             numbers, ranges = CALLS[place]
+            self.anew()
             for at in range(len(numbers)):
                 for edge in ranges[at]:
                     self.prepare(place)
@@ -120,11 +140,13 @@ class RangeTest(LineTest):
     def test_beyond_the_edges_is_refused(self):
         for place in CALLS:
             numbers, ranges = CALLS[place]
-            self.setUp()
+            self.anew()
             self.prepare(place)
             for at in range(len(numbers)):
                 for wrong in (ranges[at][0] - 1, ranges[at][1] + 1, -FARTHEST, FARTHEST):
-                    self.refused(-1, place, *with_one(numbers, at, wrong))
+                    # Of forge's number the farthest is granted.
+                    if wrong != ranges[at][1]:
+                        self.refused(-1, place, *with_one(numbers, at, wrong))
             self.assertEqual(self.call(place, *numbers)[0], 0)
 
     def test_the_relays_granted_grow_with_each_relay(self):
@@ -137,9 +159,27 @@ class RangeTest(LineTest):
     def test_the_servers_granted_are_those_of_the_world(self):
         for servers in (1, 2, 3, 4):
             self.done(BEGIN, servers, 1, 0)
-            for place, rest in ((ASSIGN, (1, 0, 1, 1)), (WITHDRAW, (1, 0)), (REST, (1,))):
+            for place, rest in ((ASSIGN, (1, 0, 1, 1)), (WITHDRAW, (1, 0)), (REST, (1,)), (WRITTEN, (1,))):
                 self.refused(-1, place, servers, *rest)
-                self.assertEqual(self.call(place, servers - 1, *rest), [0])
+                self.assertEqual(self.call(place, servers - 1, *rest)[0], 0)
+            self.done(PLUG, 1, 0, 0)
+            self.done(ON, 1)
+            self.done(FLOW, 1000)
+            self.refused(-1, FORGE, 0, 0, 1, 1, 3, servers, 0, 0)
+            self.assertEqual(self.call(FORGE, 0, 0, 1, 1, 3, servers - 1, 0, 0), [0])
+
+    def test_the_places_granted_are_those_of_the_bag(self):
+        self.done(BEGIN, 1, 3, 0)
+        for host in (1, 2, 3):
+            self.done(PLUG, host, 0, 0)
+        for count in range(4):
+            for place in (DELIVER, LOSE, DOUBLE, PEEK):
+                for wrong in (-1, count, count + 1, FARTHEST, -FARTHEST):
+                    self.refused(-1, place, wrong)
+            if count > 0:
+                self.assertEqual(len(self.done(PEEK, count - 1)), 11)
+            if count < 3:
+                self.done(ON, count + 1)
 
 
 class RangeAheadOfOwnRefusalsTest(LineTest):
@@ -175,10 +215,32 @@ class RangeAheadOfOwnRefusalsTest(LineTest):
         self.refused(-2, WITHDRAW, 0, 1, 0)
         self.refused(-1, WITHDRAW, 0, 1, 2)
 
+    def test_the_bag_when_it_is_full(self):
+        self.refused(-1, DOUBLE, 0)
+        self.done(ON, 5)
+        self.refused(-3, DOUBLE, 0)
+        self.refused(-1, DOUBLE, 1)
+        self.refused(-1, DOUBLE, -1)
+
+    def test_forge_with_each_of_its_own_refusals(self):
+        self.done(ON, 5)
+        self.refused(-2, FORGE, 0, 1, 6, 2, 1, -1, 0, 0)
+        self.refused(-1, FORGE, 0, 1, 6, 2, 1, -1, 0, 17)
+        self.refused(-1, FORGE, 0, 1, 6, 2, 6, -1, 0, 0)
+        self.refused(-3, FORGE, 0, 3, 6, 2, 1, -1, 0, 0)
+        self.refused(-1, FORGE, 0, 3, 6, 0, 1, -1, 0, 0)
+        self.refused(-4, FORGE, 0, 3, 5, 1, 1, -1, 0, 0)
+        self.refused(-1, FORGE, 0, 3, 5, 1, 1, -2, 0, 0)
+        self.refused(-1, FORGE, 0, 3, 5, 1, 1, -1, 0, 0, 0)
+        self.refused(-1, FORGE, 0, 3, 5, 1, 1, -1, 0, 0, 0, 4096)
+
+    def test_client_of_a_host_that_is_none(self):
+        self.refused(-2, CLIENT, 6)
+        self.refused(-1, CLIENT, -1)
+        self.refused(-1, CLIENT, LAST_HOST + 1)
+
     def test_tick_at_the_end_of_time(self):
         self.refused(-2, TICK, 1)
         self.refused(-2, TICK, 20000)
         self.refused(-1, TICK, 20001)
         self.refused(-1, TICK, -1)
-
-
